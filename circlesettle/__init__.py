@@ -1,0 +1,1 @@
+"""Circlesettle: sheets whose formulas go in circles, and their least and greatest solutions."""

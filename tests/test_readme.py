@@ -1,0 +1,18 @@
+"""The examples of README.md are right."""
+
+import doctest
+import pathlib
+import unittest
+
+README = pathlib.Path(__file__).resolve().parent.parent / "README.md"
+
+
+class TestReadme(unittest.TestCase):
+    def test_the_examples(self):
+        failed, tried = doctest.testfile(str(README), module_relative=False, report=True)
+        self.assertGreater(tried, 0)
+        self.assertEqual(failed, 0)
+
+
+if __name__ == "__main__":
+    unittest.main()
