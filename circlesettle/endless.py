@@ -1,7 +1,7 @@
 """Endless cells of plain flat sheets: papers that show them, and ways and choices that tell them from the others."""
 
 from circlesettle.amounts import shifted
-from circlesettle.flat import arcs_of
+from circlesettle.flat import arcs_of, copied
 from circlesettle.motion import risen
 
 
@@ -18,12 +18,9 @@ def opened(flat, places):
 
 def opened_formula(formula, is_open):
     """The flat formula that stands in the place of this one where it is open, or is not."""
-    word = formula[0]
-    if word == "amount":
-        return formula
-    if word == "when":
+    if formula[0] == "when":
         return ("greatest", [(formula[3], 0)]) if is_open else ("amount", 0)
-    return (word, list(formula[1]))
+    return copied(formula)
 
 
 def endless_in(x):

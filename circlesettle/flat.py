@@ -68,3 +68,19 @@ def arcs_of(flat, cell):
     if formula[0] == "when":
         return [(formula[3], 0)]
     return list(formula[1])
+
+
+def copied(formula):
+    """A new flat formula like this one."""
+    if formula[0] in ("least", "greatest"):
+        return (formula[0], list(formula[1]))
+    return formula
+
+
+def followers_of(leads):
+    """The list that has, for each cell, the cells that lead to it, each once; `leads` has those to which it leads."""
+    followers = [[] for _ in leads]
+    for cell, targets in enumerate(leads):
+        for target in sorted(set(targets)):
+            followers[target].append(cell)
+    return followers

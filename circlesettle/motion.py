@@ -2,7 +2,7 @@
 
 from heapq import heapify, heappop, heappush
 
-from circlesettle.flat import arcs_of
+from circlesettle.flat import arcs_of, followers_of
 
 UP = 1
 DOWN = -1
@@ -24,7 +24,7 @@ class Motion:
         self.words = [formula[0] for formula in plain]
         self.arcs = [arcs_of(plain, cell) for cell in range(len(plain))]
         self.force = [[] for _ in plain]
-        self.followers = followers_of(self.arcs)
+        self.followers = followers_of([[target for target, _ in arcs] for arcs in self.arcs])
 
     def gap(self, cell, arc):
         """How far the value of the arc, without the floor, is ahead of the amount of the cell; None for endless."""
@@ -92,15 +92,6 @@ def shortest(behind, queue):
                 if other not in found:
                     heappush(queue, (distance + further, other))
     return found
-
-
-def followers_of(arcs):
-    """The list that has, for each cell, the cells with an arc to it, each once, where arcs are told for each cell."""
-    followers = [[] for _ in arcs]
-    for cell, leading in enumerate(arcs):
-        for target in sorted({arc[0] for arc in leading}):
-            followers[target].append(cell)
-    return followers
 
 
 def risen(plain):

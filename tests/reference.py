@@ -244,3 +244,94 @@ def some_formula(rng, count, depth, *, most=3):
 
 def some_sheet(rng, count, depth, *, most=3):
     return [some_formula(rng, count, depth, most=most) for _ in range(count)]
+
+
+def cells_beside(formula):
+    """The cells that stand in a flat formula, as a set."""
+    if formula[0] == "amount":
+        return set()
+    if formula[0] == "when":
+        return {formula[1], formula[3]}
+    return {j for j, _ in formula[1]}
+
+
+def hanging_pairs(flat):
+    """All tuples of a cell and one on which it hangs, made by adding ways to ways until nothing comes to them."""
+    pairs = {(cell, other) for cell, formula in enumerate(flat) for other in cells_beside(formula)}
+    while True:
+        more = {(a, d) for a, b in pairs for c, d in pairs if b == c} - pairs
+        if not more:
+            return pairs
+        pairs |= more
+
+
+def knots_by_words(flat):
+    """Points 35 and 38, word for word: the knots in their order, and their depths."""
+    pairs = hanging_pairs(flat)
+    cells = range(len(flat))
+    left = sorted({tuple(sorted({a} | {b for b in cells if (a, b) in pairs and (b, a) in pairs})) for a in cells})
+    told = []
+    depths = []
+    while left:
+        there = {cell for knot in told for cell in knot}
+        due = [knot for knot in left if all(cells_beside(flat[cell]) <= there | set(knot) for cell in knot)]
+        knot = min(due, key=lambda each: each[0])
+        others = {other for cell in knot for other in cells_beside(flat[cell])} - set(knot)
+        depths.append(max((1 + depth for depth, each in zip(depths, told) if others & set(each)), default=0))
+        told.append(list(knot))
+        left.remove(knot)
+    return told, depths
+
+
+def term_at(term, x):
+    """The value of a term at amounts, by the words of point 39."""
+    limit, arcs = term
+    numbers = [number for number in [limit] if number is not None]
+    numbers += [x[j] + c for j, c in arcs if x[j] is not None]
+    return min(numbers) if numbers else None
+
+
+def form_at(form, x):
+    values = [0] + [term_at(term, x) for term in form]
+    return None if None in values else max(values)
+
+
+def is_form_by_words(form):
+    """Point 41, word for word, for terms whose values are compared at amounts up to what their numbers tell."""
+    for limit, arcs in form:
+        cells = [j for j, _ in arcs]
+        if limit == 0 or cells != sorted(cells) or len(set(cells)) < len(cells):
+            return False
+        if limit is not None and any(c >= limit for _, c in arcs):
+            return False
+    if any(is_no_more_by_words(a, b) for at, a in enumerate(form) for place, b in enumerate(form) if at != place):
+        return False
+    return [arcs for _, arcs in form] == sorted(arcs for _, arcs in form)
+
+
+def is_no_more_by_words(term, other):
+    """The second sentence of point 40."""
+    limit, arcs = term
+    if other[0] is not None and (limit is None or limit > other[0]):
+        return False
+    return all(any(i == j and c <= d for i, c in arcs) or (limit is not None and limit <= d) for j, d in other[1])
+
+
+def some_plain_formula(rng, count, parts, *, most=3):
+    """A formula without "when" of at most so many parts, and the number of its parts."""
+    word = rng.choice(["amount", "cell", "cell"] + ["more", "least", "greatest"] * (3 if parts > 1 else 0))
+    if word == "amount":
+        return (word, rng.choice([None, 0, 1, 2, 3, 4])), 1
+    if word == "cell":
+        return (word, rng.randrange(count)), 1
+    if word == "more":
+        formula, used = some_plain_formula(rng, count, parts - 1, most=most)
+        return (word, formula, rng.randint(-most, most)), used + 1
+    formulas = []
+    left = parts - 1
+    for _ in range(rng.randint(1, 3)):
+        if left > 0:
+            formula, used = some_plain_formula(rng, count, left, most=most)
+            formulas.append(formula)
+            left -= used
+    return (word, formulas), parts - left

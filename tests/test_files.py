@@ -54,6 +54,22 @@ INTERFACE = {
         ("stages_from_above", "(flat)"), ("flat_greatest", "(flat)"), ("greatest_solution", "(sheet)"),
         ("greatest_paper", "(flat)"), ("is_greatest_paper", "(flat, paper)"),
     ],
+    "knots": [
+        ("hangs_on", "(flat, cell)"), ("hanging", "(flat, cell)"), ("touched", "(flat, cell)"), ("knots_of", "(flat)"),
+        ("is_circle", "(flat, knot)"), ("depths_of", "(flat)"), ("knot_sheet", "(flat, knot, x)"),
+        ("solved_by_knots", "(flat, *, greatest)"),
+    ],
+    "forms": [
+        ("term_value", "(term, x)"), ("form_value", "(form, x)"), ("is_no_more", "(term, other)"),
+        ("form_of", "(formula)"), ("is_form", "(form)"), ("same_formula", "(first, second)"),
+        ("telling", "(first, second, *, count)"),
+    ],
+    "goals": [
+        ("set_input", "(flat, cell, amount)"), ("need", "(flat, input_cell, *, cell, goal)"),
+        ("need_in_greatest", "(flat, input_cell, *, cell, goal)"), ("answers", "(flat, input_cell, *, cell, most)"),
+        ("is_missed", "(flat, input_cell, *, cell, goal, amount, x)"),
+        ("miss_of", "(flat, input_cell, *, cell, goal, amount)"),
+    ],
 }
 
 

@@ -8,9 +8,14 @@ from circlesettle.endless import (
     shows_endless,
 )
 from circlesettle.flat import arcs_of, flat_form, flat_values, is_flat_solution
+from circlesettle.forms import form_of, form_value, is_form, is_no_more, same_formula, telling, term_value
+from circlesettle.goals import answers, is_missed, miss_of, need, need_in_greatest, set_input
 from circlesettle.greatest import (
     flat_greatest, greatest_paper, greatest_solution, held_ranks, is_greatest_paper, shows_greatest, stages_from_above,
     tight_ranks,
+)
+from circlesettle.knots import (
+    depths_of, hanging, hangs_on, is_circle, knot_sheet, knots_of, solved_by_knots, touched,
 )
 from circlesettle.least import (
     are_ranks, flat_least, is_least_paper, least_paper, least_ranks, least_solution, stages_from_below,
@@ -22,6 +27,7 @@ from circlesettle.rounds import (
 )
 from circlesettle.writing import write_formula, write_sheet
 
+N = None
 SHEET = [("least", [("more", ("cell", 0), 1), ("greatest", [("amount", 5), ("cell", 2)])]),
          ("when", 0, 3, ("more", ("cell", 1), 2)), ("cell", 2)]
 FLAT = [("amount", 3), ("when", 0, 3, 2), ("greatest", [(0, 1), (3, 0)]), ("when", 1, 4, 4),
@@ -31,6 +37,10 @@ PLAIN = [("greatest", [(1, 2), (2, 0)]), ("least", [(0, -1), (4, 0)]), ("greates
 ROUND = [None, 0, None, 1, None, None, None]
 LEAST = flat_least(PLAIN)
 GREATEST = flat_greatest(PLAIN)
+
+FORMULA = ("least", [("more", ("greatest", [("cell", 1), ("amount", 4)]), 2), ("greatest", [("cell", 0), ("cell", 1)])])
+OTHER = ("greatest", [("least", [("cell", 1), ("cell", 0), ("amount", 9)]), ("more", ("cell", 2), -3)])
+GOAL = {"cell": 7, "goal": 6}
 
 # Each function with what is handed in by position, and by name.
 CALLS = [
@@ -56,6 +66,17 @@ CALLS = [
     (stages_from_above, [FLAT], {}), (stages_from_above, [PLAIN], {}), (flat_greatest, [FLAT], {}),
     (flat_greatest, [PLAIN], {}), (greatest_solution, [SHEET], {}), (greatest_paper, [FLAT], {}),
     (greatest_paper, [PLAIN], {}), (is_greatest_paper, [FLAT, greatest_paper(FLAT)], {}),
+    (hangs_on, [FLAT, 7], {}), (hanging, [FLAT, 4], {}), (touched, [FLAT, 4], {}), (knots_of, [FLAT], {}),
+    (is_circle, [FLAT, [2, 3]], {}), (depths_of, [FLAT], {}), (knot_sheet, [PLAIN, [0, 1, 2], LEAST], {}),
+    (knot_sheet, [PLAIN, [4], LEAST], {}), (solved_by_knots, [FLAT], {"greatest": False}),
+    (solved_by_knots, [FLAT], {"greatest": True}),
+    (term_value, [(4, [(0, 1), (2, -3)]), [2, 3, N]], {}), (form_value, [form_of(FORMULA), [2, 3, N]], {}),
+    (is_no_more, [(4, [(0, 1)]), (5, [(0, 2), (1, 4)])], {}), (form_of, [FORMULA], {}), (form_of, [OTHER], {}),
+    (is_form, [form_of(FORMULA)], {}), (is_form, [form_of(FORMULA)[::-1]], {}), (same_formula, [FORMULA, OTHER], {}),
+    (telling, [FORMULA, OTHER], {"count": 5}), (telling, [OTHER, FORMULA], {"count": 3}),
+    (set_input, [FLAT, 0, 9], {}), (need, [FLAT, 0], GOAL), (need_in_greatest, [FLAT, 0], GOAL),
+    (answers, [FLAT, 0], {"cell": 7, "most": 9}), (is_missed, [FLAT, 0], {**GOAL, "amount": 1, "x": [2] * 8}),
+    (miss_of, [FLAT, 0], {**GOAL, "amount": 1}), (miss_of, [FLAT, 0], {**GOAL, "amount": 99}),
 ]
 
 
@@ -80,7 +101,7 @@ def lists_in(value):
 
 class TestUntouched(unittest.TestCase):
     def test_every_function_that_takes_or_returns_lists_is_here(self):
-        self.assertEqual(len({call[0] for call in CALLS}), 43)
+        self.assertEqual(len({call[0] for call in CALLS}), 64)
 
     def test_what_is_handed_in_stays(self):
         for function, arguments, named in CALLS:
