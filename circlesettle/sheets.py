@@ -36,6 +36,29 @@ def cells_in(formula):
     return sorted({part[1] for part in parts_of(formula) if part[0] in ("cell", "when")})
 
 
+def with_inner(formula, inner):
+    """The formula with these formulas in the place of those that stand directly in it."""
+    word = formula[0]
+    if word == "more":
+        return (word, inner[0], formula[2])
+    if word == "when":
+        return (word, formula[1], formula[2], inner[0])
+    return (word, inner) if word in ("least", "greatest") else formula
+
+
+def turned(formula, names):
+    """A new formula like this one, in which cells that `names` has are called as it tells."""
+    made = with_inner(formula, [turned(inner, names) for inner in formulas_in(formula)])
+    if formula[0] in ("cell", "when"):
+        return (made[0], names.get(made[1], made[1])) + made[2:]
+    return made
+
+
+def turned_sheet(sheet, names):
+    """A new sheet like this one, in which cells that `names` has are called as it tells."""
+    return [turned(formula, names) for formula in sheet]
+
+
 def value_of(formula, x):
     """The value of the formula at the amounts x."""
     word = formula[0]
@@ -65,28 +88,37 @@ def check_sheet(sheet):
     """Raise the first error that is due for the sheet; return None if there is none."""
     if not 1 <= len(sheet) <= MOST_CELLS:
         raise BadSize()
+
+    def is_name(value):
+        return is_cell(value, sheet)
+
     for formula in sheet:
-        check_part(formula, len(sheet), 0)
+        check_formula(formula, is_name)
 
 
-def check_part(part, count, around):
-    """Raise the first error of a part that stands within `around` others, in a sheet of `count` cells."""
+def check_formula(formula, is_name):
+    """Raise the first error of the formula; `is_name` tells of any value whether it is the name of a cell."""
+    check_part(formula, is_name, 0)
+
+
+def check_part(part, is_name, around):
+    """Raise the first error of a part that stands within `around` others."""
     # The depth comes first, so what goes on below the limit is never looked at.
     if around > MOST_AROUND:
         raise TooDeep()
     if LENGTHS.get(part[0]) != len(part):
         raise BadForm()
-    check_numbers(part, count)
+    check_numbers(part, is_name)
     for inner in formulas_in(part):
-        check_part(inner, count, around + 1)
+        check_part(inner, is_name, around + 1)
 
 
-def check_numbers(part, count):
-    """Raise the first error of the numbers and sizes of a part that has the right form."""
+def check_numbers(part, is_name):
+    """Raise the first error of the numbers, names and sizes of a part that has the right form."""
     word = part[0]
     if word == "amount" and not (part[1] is None or is_from_to(part[1], 0, LIMIT - 1)):
         raise BadAmount()
-    if word in ("cell", "when") and not is_from_to(part[1], 0, count - 1):
+    if word in ("cell", "when") and not is_name(part[1]):
         raise BadCell()
     if word == "more" and not is_from_to(part[2], 1 - LIMIT, LIMIT - 1):
         raise BadShift()
@@ -94,6 +126,11 @@ def check_numbers(part, count):
         raise BadSize()
     if word == "when" and not is_from_to(part[2], 1, LIMIT - 1):
         raise BadAmount()
+
+
+def is_cell(value, sheet):
+    """True if the value is a cell of the sheet, otherwise False."""
+    return is_from_to(value, 0, len(sheet) - 1)
 
 
 def is_from_to(value, first, last):

@@ -70,6 +70,25 @@ INTERFACE = {
         ("is_missed", "(flat, input_cell, *, cell, goal, amount, x)"),
         ("miss_of", "(flat, input_cell, *, cell, goal, amount)"),
     ],
+    "checker": [("check", "(sheet, claim, paper)"), ("paper_of", "(sheet, claim)"), ("is_true", "(sheet, claim)")],
+    "strategies": [
+        ("is_choice", "(flat, choice, *, kind)"), ("put_in", "(flat, choice, *, kind)"),
+        ("is_best", "(flat, choice, *, kind)"), ("best_choice", "(flat, *, kind)"), ("better", "(flat, choice, x)"),
+        ("steps_of", "(flat, choice)"),
+    ],
+    "book": [("Book", "()"), ("replay", "(journal)")],
+    "joining": [
+        ("joined", "(first, second, *, links)"), ("taken_out", "(sheet, cell)"), ("in_order", "(sheet, order)"),
+        ("fixed", "(sheet, cell, amount)"),
+    ],
+}
+
+METHODS = {
+    "__len__": "(self)", "__contains__": "(self, name)", "put": "(self, name, formula)", "remove": "(self, name)",
+    "rename": "(self, name, other)", "undo": "(self)", "redo": "(self)", "do_all": "(self, deeds)",
+    "what_if": "(self, deeds)", "names": "(self)", "formula": "(self, name)", "least": "(self, name)",
+    "greatest": "(self, name)", "is_settled": "(self, name)", "users": "(self, name)", "sheet": "(self)",
+    "journal": "(self)",
 }
 
 
@@ -87,6 +106,14 @@ class TestInterface(unittest.TestCase):
                     self.assertEqual(found.__module__, module.__name__)
                     if arguments is not None:
                         self.assertEqual(str(inspect.signature(found)), arguments)
+
+
+    def test_each_method_is_defined_in_its_class(self):
+        book = importlib.import_module("circlesettle.book").Book
+        for word, arguments in METHODS.items():
+            self.assertEqual(str(inspect.signature(vars(book)[word])), arguments)
+        for word in ("can_undo", "can_redo"):
+            self.assertIsInstance(vars(book)[word], property)
 
 
 class TestFiles(unittest.TestCase):

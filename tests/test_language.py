@@ -14,7 +14,7 @@ LIBRARY = {
 }
 BUILTINS = set("""len range enumerate zip min max sum abs sorted reversed int str bool bytes list tuple dict set frozenset
     isinstance ord repr any all divmod pow Exception ValueError TypeError KeyError IndexError LookupError
-    ZeroDivisionError ArithmeticError OverflowError RuntimeError NotImplementedError AttributeError""".split())
+    ZeroDivisionError ArithmeticError OverflowError RuntimeError NotImplementedError AttributeError property""".split())
 METHODS = set("""append clear copy count endswith extend find get index insert isalnum isalpha isdigit islower isspace
     isupper items join keys ljust lower lstrip partition pop remove replace reverse rfind rjust rpartition rsplit rstrip
     setdefault split splitlines startswith strip update upper values zfill bit_length""".split())
@@ -100,9 +100,13 @@ class TestLanguage(unittest.TestCase):
             for node in tree.body:
                 self.assertIsInstance(node, (ast.Expr, ast.ImportFrom, ast.FunctionDef, ast.ClassDef, ast.Assign))
 
-    def test_functions_have_no_decorators_and_no_annotations(self):
+    def test_functions_have_no_decorators_but_properties_and_no_annotations(self):
         for node in self.every(ast.FunctionDef, ast.ClassDef):
-            self.assertEqual(node.decorator_list, [])
+            decorators = [ast.dump(each) for each in node.decorator_list]
+            if decorators:
+                self.assertIsInstance(node.around, ast.ClassDef)
+                self.assertEqual(decorators, [ast.dump(ast.Name("property", ast.Load()))])
+                self.assertEqual([arg.arg for arg in node.args.args], ["self"])
         for node in self.every(ast.arg):
             self.assertIsNone(node.annotation)
 
@@ -123,7 +127,7 @@ class TestLanguage(unittest.TestCase):
                 with self.subTest(file=name, name=bound):
                     self.assertNotIn(bound, dir(builtins))
                     self.assertNotIn(bound, BARRED)
-                    self.assertRegex(bound, "^(_|_?[A-Za-z][A-Za-z0-9_]*|__init__)$")
+                    self.assertRegex(bound, "^(_|_?[A-Za-z][A-Za-z0-9_]*|__init__|__len__|__contains__)$")
                     self.assertIsNone(re.match("_(wall|pe_|dcw_|enum_|cm_|twin_re_|lay_|law_|stub_|sre)", bound))
 
     def test_names_at_module_level_are_bound_once_and_nowhere_else(self):
@@ -157,6 +161,34 @@ class TestLanguage(unittest.TestCase):
                 if isinstance(node, (ast.Name, ast.Attribute, ast.arg, ast.alias, ast.FunctionDef, ast.keyword)):
                     words = {getattr(node, field, None) for field in ("id", "attr", "arg", "name")}
                     self.assertEqual(words & BARRED_WORDS, set(), name)
+
+    def test_property_is_no_value(self):
+        for node in self.every(ast.Name):
+            if node.id == "property":
+                self.assertIsInstance(node.around, ast.FunctionDef)
+
+    def test_what_operators_and_properties_run_changes_nothing(self):
+        functions = {node.name: node for _, tree in trees() for node in ast.walk(tree) if isinstance(node, ast.FunctionDef)}
+        todo = [node for node in functions.values() if node.decorator_list or node.name in ("__len__", "__contains__")]
+        self.assertGreater(len(todo), 3)
+        done = []
+        while todo:
+            node = todo.pop()
+            done.append(node)
+            for inner in ast.walk(node):
+                self.assertFalse(isinstance(inner, (ast.Attribute, ast.Subscript)) and not isinstance(inner.ctx, ast.Load))
+                self.assertNotIsInstance(inner, ast.AugAssign)
+                if isinstance(inner, ast.Call):
+                    self.assertIsInstance(inner.func, ast.Name)
+                    called = functions.get(inner.func.id)
+                    self.assertTrue(called or inner.func.id in BUILTINS)
+                    if called and called not in done:
+                        todo.append(called)
+
+    def test_errors_that_are_caught_are_own_ones(self):
+        own = {node.name for name, tree in trees() if name == "errors.py" for node in tree.body if isinstance(node, ast.ClassDef)}
+        for node in self.every(ast.ExceptHandler):
+            self.assertIn(node.type.id, own)
 
     def test_is_stands_with_none_true_and_false(self):
         for node in self.every(ast.Compare):

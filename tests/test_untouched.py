@@ -3,6 +3,8 @@
 import copy
 import unittest
 
+from circlesettle.book import replay
+from circlesettle.checker import check, is_true, paper_of
 from circlesettle.endless import (
     are_holding, conditions_of, endless_cells, endless_paper, gaining_way, holding_choices, is_gaining, opened,
     shows_endless,
@@ -14,6 +16,7 @@ from circlesettle.greatest import (
     flat_greatest, greatest_paper, greatest_solution, held_ranks, is_greatest_paper, shows_greatest, stages_from_above,
     tight_ranks,
 )
+from circlesettle.joining import fixed, in_order, joined, taken_out
 from circlesettle.knots import (
     depths_of, hanging, hangs_on, is_circle, knot_sheet, knots_of, solved_by_knots, touched,
 )
@@ -25,6 +28,8 @@ from circlesettle.rounds import (
     bound_of, first_round, from_above, from_below, is_high, is_low, one_round, settled_from_above,
     settled_from_below, waves_from_above, waves_from_below,
 )
+from circlesettle.sheets import cells_in, check_sheet, is_solution, value_of, values_of
+from circlesettle.strategies import best_choice, better, is_best, is_choice, put_in, steps_of
 from circlesettle.writing import write_formula, write_sheet
 
 N = None
@@ -41,6 +46,36 @@ GREATEST = flat_greatest(PLAIN)
 FORMULA = ("least", [("more", ("greatest", [("cell", 1), ("amount", 4)]), 2), ("greatest", [("cell", 0), ("cell", 1)])])
 OTHER = ("greatest", [("least", [("cell", 1), ("cell", 0), ("amount", 9)]), ("more", ("cell", 2), -3)])
 GOAL = {"cell": 7, "goal": 6}
+SECOND = [("amount", 1), ("greatest", [("cell", 0), ("least", [("cell", 2), ("cell", 3)])]), ("more", ("cell", 0), 2),
+          ("least", [("cell", 3), ("greatest", [("amount", 4), ("cell", 1)])])]
+LOW, HIGH = least_solution(SECOND), greatest_solution(SECOND)
+SIDE = {"kind": "greatest"}
+OTHER_SIDE = {"kind": "least"}
+CHOICE = [1, None, 0, None, None, 1, None]
+OTHER_CHOICE = [None, 0, None, 1, None, None, None]
+JOURNAL = [("put", "a", ("least", [("amount", 4), ("cell", "a")])), ("put", "b", ("greatest", [("cell", "a"), ("cell", "b")])),
+           ("rename", "a", "c"), ("undo",), ("put", "d", ("when", "b", 3, ("least", [("cell", "d"), ("cell", "a")])))]
+
+
+def journal_of(journal):
+    return replay(journal).journal()
+
+
+def sheet_of(journal):
+    return replay(journal).sheet()
+
+
+def formula_of(journal, name):
+    return replay(journal).formula(name)
+
+
+def changed_by(journal, deeds):
+    return replay(journal).do_all(deeds)
+
+
+def amounts_behind(journal, deeds):
+    return replay(journal).what_if(deeds)
+
 
 # Each function with what is handed in by position, and by name.
 CALLS = [
@@ -77,6 +112,25 @@ CALLS = [
     (set_input, [FLAT, 0, 9], {}), (need, [FLAT, 0], GOAL), (need_in_greatest, [FLAT, 0], GOAL),
     (answers, [FLAT, 0], {"cell": 7, "most": 9}), (is_missed, [FLAT, 0], {**GOAL, "amount": 1, "x": [2] * 8}),
     (miss_of, [FLAT, 0], {**GOAL, "amount": 1}), (miss_of, [FLAT, 0], {**GOAL, "amount": 99}),
+    (check_sheet, [SHEET], {}), (value_of, [SHEET[0], [1, N, 3]], {}), (values_of, [SHEET, [1, N, 3]], {}),
+    (is_solution, [SHEET, [5, 7, 0]], {}), (cells_in, [SHEET[0]], {}),
+    (check, [SECOND, ("least", LOW), paper_of(SECOND, ("least", LOW))], {}),
+    (check, [SECOND, ("at_most", 1, 5), paper_of(SECOND, ("greatest", HIGH))], {}),
+    (check, [[("amount", 3)], ("only", [3]), paper_of([("amount", 3)], ("only", [3]))], {}),
+    (paper_of, [SECOND, ("least", LOW)], {}), (paper_of, [SECOND, ("greatest", HIGH)], {}),
+    (paper_of, [SECOND, ("at_least", 2, 3)], {}), (paper_of, [[("amount", 3)], ("only", [3])], {}),
+    (is_true, [SECOND, ("only", LOW)], {}),
+    (is_choice, [PLAIN, CHOICE], SIDE), (put_in, [PLAIN, CHOICE], SIDE), (put_in, [PLAIN, OTHER_CHOICE], OTHER_SIDE),
+    (is_best, [PLAIN, CHOICE], SIDE), (is_best, [PLAIN, OTHER_CHOICE], OTHER_SIDE), (best_choice, [PLAIN], SIDE),
+    (best_choice, [PLAIN], OTHER_SIDE), (better, [PLAIN, CHOICE, [1, 2, 3, 4, 5, 6, N]], {}),
+    (better, [PLAIN, CHOICE, [0] * 7], {}), (steps_of, [PLAIN, CHOICE], {}),
+    (steps_of, [PLAIN, [0, None, 0, None, None, 0, None]], {}),
+    (joined, [SHEET, SECOND], {"links": [(0, 2)]}), (joined, [SECOND, SHEET], {"links": []}), (taken_out, [SECOND, 1], {}),
+    (taken_out, [SECOND, 2], {}), (in_order, [SHEET, [2, 0, 1]], {}), (in_order, [SHEET, [0, 1, 2]], {}),
+    (fixed, [SHEET, 2, 4], {}), (fixed, [SECOND, 0, N], {}),
+    (journal_of, [JOURNAL], {}), (sheet_of, [JOURNAL], {}), (formula_of, [JOURNAL, "d"], {}),
+    (changed_by, [JOURNAL, [("put", "e", ("least", [("cell", "e")])), ("undo",)]], {}), (changed_by, [[], JOURNAL], {}),
+    (amounts_behind, [JOURNAL, [("put", "e", ("least", [("cell", "e")]))]], {}),
 ]
 
 
@@ -101,7 +155,7 @@ def lists_in(value):
 
 class TestUntouched(unittest.TestCase):
     def test_every_function_that_takes_or_returns_lists_is_here(self):
-        self.assertEqual(len({call[0] for call in CALLS}), 64)
+        self.assertEqual(len({call[0] for call in CALLS}), 87)
 
     def test_what_is_handed_in_stays(self):
         for function, arguments, named in CALLS:
