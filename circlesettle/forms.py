@@ -50,8 +50,8 @@ def form_of(formula):
 def shifted_form(form, shift):
     """The form of the formula with this form and the shift."""
     terms = [(moved(limit, shift), [(cell, number + shift) for cell, number in arcs]) for limit, arcs in form]
-    if shift > 0:
-        terms.append((shift, []))
+    # The 0 of the form comes to the shift itself; it falls out with the others where this is not above 0.
+    terms.append((shift, []))
     return made_short([term for term in terms if term[0] is None or term[0] > 0])
 
 

@@ -30,7 +30,6 @@ def amount_above(flat, input_cell, cell, amount):
 def most_needed(flat, goal):
     """A number that reaches the goal as an input if any number does."""
     numbers = [abs(shift) for cell in range(len(flat)) for _, shift in arcs_of(flat, cell)]
-    numbers += [formula[1] for formula in flat if formula[0] == "amount" and formula[1] is not None]
     numbers += [formula[2] for formula in flat if formula[0] == "when"]
     # The bound of point 45, but for sheets with numbers beyond the limit, for which it grows with them.
     most = max([LIMIT, goal] + numbers)

@@ -305,6 +305,17 @@ class TestRename(Books):
         self.assertEqual(book.rename("a", "a"), [])
         self.assertIs(book.can_redo, False)
 
+    def test_names_that_are_words_of_deeds_and_formulas(self):
+        book = three()
+        for name, other in [("a", "undo"), ("undo", "redo"), ("redo", "put"), ("put", "rename"), ("rename", "remove"),
+                            ("remove", "cell")]:
+            self.assertEqual(book.rename(name, other), [other])
+            self.assertEqual(book.names(), [other, "b", "c"])
+            self.assertEqual(book.formula("b"), ("greatest", [("more", ("cell", other), 1), ("amount", 2)]))
+        book.put("undo", ("when", "undo", 1, ("cell", "cell")))
+        self.assertEqual(book.formula("undo"), ("when", "undo", 1, ("cell", "cell")))
+        self.assertEqual(book.remove("undo"), [])
+
     def test_a_name_that_has_become_free(self):
         book = three()
         book.rename("a", "x")

@@ -77,6 +77,13 @@ class TestNotInput(unittest.TestCase):
                         call(cell)
                     self.assertEqual(caught.exception.cell, cell)
 
+    def test_what_is_no_cell(self):
+        for call in self.CALLS:
+            for cell in (5, -1, -5, 10 ** 30):
+                with self.assertRaises(NotInput) as caught:
+                    call(cell)
+                self.assertEqual(caught.exception.cell, cell)
+
     def test_no_error_at_an_input(self):
         for call in self.CALLS:
             call(0)
@@ -185,6 +192,11 @@ class TestNeed(unittest.TestCase):
         flat = [("amount", 0)] + [("least", [(cell - 1, -5000)]) for cell in range(1, 10)]
         self.assertEqual(need(flat, 0, cell=9, goal=3000), 48000)
         self.assertEqual(need_in_greatest(flat, 0, cell=9, goal=3000), 48000)
+        flat = [("amount", 0), ("when", 0, 50000, 2), ("amount", 4)]
+        self.assertEqual(need(flat, 0, cell=1, goal=4), 50000)
+        self.assertEqual(need_in_greatest(flat, 0, cell=1, goal=4), 50000)
+        self.assertIsNone(need(flat, 0, cell=1, goal=5))
+        self.assertEqual(need(flat, 0, cell=0, goal=70000), 70000)
 
 
 class TestAnswers(unittest.TestCase):
